@@ -1,0 +1,1 @@
+"""Callpact: routines that keep to a pact when they call one another."""
