@@ -1,7 +1,11 @@
-"""A second, plainer reading of points 4 to 6, to hold the package's looks against.
+"""A second, plainer reading of points 4 to 6 and 12 to 14, to hold the package against.
 
-It keeps whole ways and takes the least of them, where the package goes by order of discovery.
+Its looks keep whole ways and take the least of them, where the package goes by order of
+discovery. Its saves are put in one after the other, where the package lays out blocks of
+rows.
 """
+
+import itertools
 
 GOOD, LOOSE = "good", "loose"
 
@@ -120,3 +124,105 @@ def all_states(program, routine):
             met.update(fresh)
             left += fresh
     return met
+
+
+def put_in(program, routine, saves):
+    """The rows of a routine with saves, one push or pop put in after the other.
+
+    Here a row to which another one goes is held itself, not its number.
+    """
+    rows = [list(row) for row in program[1][routine][1]]
+    for row in rows:
+        if row[0] in ("go", "zero"):
+            row[-1] = rows[row[-1]]
+    told = list(rows)
+
+    def place(row):
+        return [row is other for other in told].index(True)
+
+    def put_ahead(row, fresh):
+        told.insert(place(row), fresh)
+        for other in told:
+            if other[0] in ("go", "zero") and other[-1] is row:
+                other[-1] = fresh
+
+    for number, box in saves:
+        if number > -1:
+            put_ahead(rows[number], ["push", box])
+            told.insert(place(rows[number]) + 1, ["pop", box])
+    whole = [box for number, box in saves if number == -1]
+    for row in rows:
+        if row[0] == "back":
+            for box in reversed(whole):
+                put_ahead(row, ["pop", box])
+    told[:0] = [["push", box] for box in whole]
+    return tuple(
+        (*row[:-1], place(row[-1])) if row[0] in ("go", "zero") else tuple(row) for row in told
+    )
+
+
+def with_rows(program, routine, rows):
+    houses, routines = program
+    changed = [(house, rows if at == routine else own) for at, (house, own) in enumerate(routines)]
+    return (houses, tuple(changed))
+
+
+def outs(program, routine):
+    """What saves may be about, each with the box in which is told there."""
+    houses, routines = program
+    told = {-1: houses[routines[routine][0]][1]}
+    for number, row in enumerate(routines[routine][1]):
+        if row[0] == "call":
+            told[number] = houses[routines[row[1]][0]][1]
+    return told
+
+
+def fewest(program, routine):
+    """The least of all lists of saves that mend a routine, found by judging every one of them."""
+    choices = [
+        (row, box) for row, out in outs(program, routine).items() for box in range(6) if box != out
+    ]
+    mending = []
+    for many in range(4):
+        for saves in itertools.combinations(choices, many):
+            rows = put_in(program, routine, saves)
+            if len(rows) < 33:
+                told, met = look(with_rows(program, routine, rows), routine, 250)
+                if told is None and len(met) < 251:
+                    mending.append((many, sorted(saves)))
+        if mending:
+            return min(mending)[1]
+    return None
+
+
+def piles(program):
+    """How high each routine's part of the pile gets, with those of the ones that it calls."""
+    houses, routines = program
+    highest, called = {}, {}
+    for routine in range(len(routines)):
+        called[routine] = {}
+        highest[routine] = 0
+        for row, _, pile in all_states(program, routine):
+            highest[routine] = max(highest[routine], len(pile))
+            word, *rest = routines[routine][1][row]
+            if word == "call":
+                ahead = called[routine].get(rest[0], 0)
+                called[routine][rest[0]] = max(ahead, len(pile))
+
+    def leads_to(routine):
+        met, left = set(), [routine]
+        while left:
+            fresh = set(called[left.pop()]) - met
+            met |= fresh
+            left += fresh
+        return met
+
+    def most(routine):
+        inner = [height + most(other) for other, height in called[routine].items()]
+        return max([highest[routine]] + inner)
+
+    round_ones = {routine for routine in highest if routine in leads_to(routine)}
+    return [
+        None if (leads_to(routine) | {routine}) & round_ones else most(routine)
+        for routine in range(len(routines))
+    ]

@@ -212,6 +212,21 @@ def spoilt_programs(seed, many):
     return told
 
 
+def straight_programs(seed, many):
+    """Programs without ways that part, of which several lack nothing but some saves."""
+    chance = random.Random(seed)
+    told = []
+    for _ in range(many):
+        boxes = chance.sample(range(1, 6), 3)
+        house = ((0,), 0, tuple(sorted(boxes[:chance.randrange(4)])))
+        rows = [("put", box, 1) for box in boxes] + [("call", 1)] * chance.randrange(3)
+        rows += [(chance.choice(["say", "push"]), box) for box in boxes[:chance.randrange(4)]]
+        rows += [("pop", chance.randrange(1, 6)) for row in rows if row[0] == "push"]
+        called_house = ((0,), 0, tuple(sorted(boxes[:chance.randrange(3)])))
+        told.append(pair(rows + [BACK], [BACK], house, called_house))
+    return told
+
+
 def given_of(program, chance):
     """Numbers that routine 0 may be given."""
     ins = program[0][program[1][0][0]][0]

@@ -4,7 +4,10 @@ import unittest
 
 from callpact.errors import BadNumber, BadProgram
 from callpact.looks import look, looked, paper, shows
+from callpact.notes import read, written
+from callpact.piles import piles
 from callpact.runs import noisy, run, watched
+from callpact.saves import fewest, put_in
 
 from samples import BACK, FILL, PLAIN, alone, pair
 
@@ -17,6 +20,10 @@ CALLS = (
     ("run", lambda program: run(program, [1000], 1001)),
     ("noisy", lambda program: noisy(program, [1000], 1001, [])),
     ("watched", lambda program: watched(program, [1000], 1001)),
+    ("put_in", lambda program: put_in(program, 9, [(9, 9, 9)])),
+    ("fewest", lambda program: fewest(program, 9)),
+    ("piles", piles),
+    ("written", written),
 )
 
 HOUSES = (PLAIN,)
@@ -151,6 +158,8 @@ class Taken(unittest.TestCase):
         looked(program)
         run(program, given, 5)
         self.assertEqual(watched(program, given, 0), [])
+        self.assertEqual(put_in(program, 0, []), program)
+        self.assertEqual(read(written(program)), program)
 
     def test_three_houses_and_six_routines(self):
         self.check(((PLAIN,) * 3, (GOOD, (2, (("call", 5), BACK)), (1, (BACK,))) + (GOOD,) * 3))
@@ -176,25 +185,32 @@ class Numbers(unittest.TestCase):
     def test_a_routine_that_there_is_not(self):
         program = pair([BACK], [BACK])
         for routine in (2, 6, -1, -2, 1000):
-            for call in (look, paper):
+            for call in (look, paper, fewest):
                 with self.assertRaises(BadNumber):
                     call(program, routine)
-            with self.assertRaises(BadNumber):
-                shows(program, routine, [])
+            for call in (shows, put_in):
+                with self.assertRaises(BadNumber):
+                    call(program, routine, [])
 
     def test_the_last_there_is(self):
         program = pair([BACK], [BACK])
         self.assertIsNone(look(program, 1))
         self.assertEqual(len(paper(program, 1)), 1)
         self.assertFalse(shows(program, 1, []))
+        self.assertEqual(put_in(program, 1, []), program)
+        self.assertEqual(fewest(program, 1), [])
 
     def test_a_bad_program_comes_first(self):
         with self.assertRaises(BadProgram):
             look(pair([BACK], [FILL]), 2)
 
-    def test_the_number_comes_ahead_of_states_and_of_not_let(self):
+    def test_the_number_comes_ahead_of_what_stands_behind_it(self):
         with self.assertRaises(BadNumber):
             shows(pair([BACK], [BACK]), 2, ["none"])
+        with self.assertRaises(BadNumber):
+            put_in(pair([BACK], [BACK]), 2, [(9, 9)])
+        with self.assertRaises(BadNumber):
+            fewest(alone([("call", 0)] * 3 + [BACK]), 1)
         with self.assertRaises(BadNumber):
             paper(alone([("say", 1), BACK]), 1)
 

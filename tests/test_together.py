@@ -1,11 +1,14 @@
-"""Point 11, and point 1: what holds of looks and runs together."""
+"""Point 11, and point 1: what holds of all parts together."""
 
 import copy
 import random
 import unittest
 
 from callpact.looks import look, looked, paper, shows
+from callpact.notes import read, written
+from callpact.piles import piles
 from callpact.runs import noisy, run, watched
+from callpact.saves import fewest, put_in
 
 from samples import (BACK, DOWN, TELLS, TIMES, alone, given_of, let_by_programs, pair,
                      random_programs, spoilt_programs)
@@ -59,8 +62,8 @@ class Again(unittest.TestCase):
     def test_asked_again_the_same_is_told(self):
         program = pair([("call", 1), ("push", 0), BACK], [("put", 2, 1), BACK], ((0,), 0, (2,)),
                        ((0,), 0, (2,)))
-        given, noise, states = [4], [1, 2], paper(TIMES, 0)
-        before = copy.deepcopy((program, given, noise, states))
+        given, noise, states, saves = [4], [1, 2], paper(TIMES, 0), [(-1, 2), (0, 3)]
+        before = copy.deepcopy((program, given, noise, states, saves))
         asked = (
             lambda: look(program, 0),
             lambda: looked(program),
@@ -69,19 +72,38 @@ class Again(unittest.TestCase):
             lambda: run(program, given, 99),
             lambda: watched(program, given, 99),
             lambda: noisy(program, given, 99, noise),
+            lambda: put_in(program, 0, saves),
+            lambda: fewest(TIMES, 0),
+            lambda: fewest(program, 1),
+            lambda: piles(TIMES),
+            lambda: written(program),
+            lambda: read(written(program)),
         )
         first = [copy.deepcopy(ask()) for ask in asked]
         for told in [ask() for ask in asked]:
             if isinstance(told, list):
                 told.clear()
         self.assertEqual([ask() for ask in asked], first)
-        self.assertEqual((program, given, noise, states), before)
+        self.assertEqual((program, given, noise, states, saves), before)
+
+    def test_what_is_told_does_not_hang_on_what_was_handed_in(self):
+        saves = [(0, 3)]
+        told = put_in(TIMES, 1, [])
+        saved = put_in(pair([("call", 1), BACK], [BACK]), 0, saves)
+        saves.clear()
+        self.assertEqual(told, TIMES)
+        self.assertEqual(len(saved[1][0][1]), 4)
 
     def test_the_functions_are_defined_in_their_files(self):
         for function in (look, looked, paper, shows):
             self.assertEqual(function.__module__, "callpact.looks")
         for function in (run, noisy, watched):
             self.assertEqual(function.__module__, "callpact.runs")
+        for function in (put_in, fewest):
+            self.assertEqual(function.__module__, "callpact.saves")
+        self.assertEqual(piles.__module__, "callpact.piles")
+        for function in (written, read):
+            self.assertEqual(function.__module__, "callpact.notes")
 
     def test_what_breaks_is_seen_by_looks_and_runs(self):
         program = alone([("put", 2, 1), BACK], ((0,), 0, (2,)))
